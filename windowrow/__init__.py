@@ -1,0 +1,1 @@
+"""Windows one behind another: who is done where, and when."""
