@@ -122,6 +122,32 @@ class Form(unittest.TestCase):
                     if isinstance(node, ast.Name) and isinstance(node.ctx, ast.Load):
                         self.assertIn(node.id, bound + PYTHONS_OWN)
 
+    def test_no_parameter_or_local_is_called_like_an_import_or_a_class(self):
+        for file, text, tree in each_file():
+            with self.subTest(file=file):
+                nodes = list(ast.walk(tree))
+                taken = [node.name for node in nodes if isinstance(node, (ast.alias, ast.ClassDef))]
+                given = [node.arg for node in nodes if isinstance(node, ast.arg)]
+                stored = [node.id for node in nodes if isinstance(node, ast.Name) and isinstance(node.ctx, ast.Store)]
+                self.assertEqual([name for name in given + stored if name in taken], [])
+
+    def test_each_name_is_bound_once_at_a_files_top(self):
+        for file, text, tree in each_file():
+            with self.subTest(file=file):
+                names = [name for part in tree.body for name in bound_names_of_top(part)]
+                names += [name.name for part in tree.body if isinstance(part, ast.ImportFrom) for name in part.names]
+                self.assertEqual(len(names), len(set(names)))
+
+    def test_no_two_files_draw_from_one_another(self):
+        drawn = {}
+        for file, text, tree in each_file():
+            drawn[file] = [f"{part.module.split('.')[1]}.py" for part in tree.body if isinstance(part, ast.ImportFrom)]
+        while drawn:
+            free = [file for file in drawn if not any(other in drawn for other in drawn[file])]
+            self.assertNotEqual(free, [], drawn)
+            for file in free:
+                del drawn[file]
+
     def test_methods(self):
         trees = [ast.parse(path.read_text(encoding="utf-8")) for path in FILES]
         own = [node.name for tree in trees for node in ast.walk(tree) if isinstance(node, ast.FunctionDef)]

@@ -1,4 +1,4 @@
-"""The calls that only ask: done, wait, last, way, critical, slack, waits.
+"""The calls that ask when and how long: done, wait, last, way, critical, slack, waits.
 
 Each gives the list of the numbers that it answers.
 """

@@ -6,18 +6,23 @@ done at the windows, as done_times gives it.
 """
 
 
+def done_behind(ahead, coming, taken):
+    """When a person is done at each window, behind one who is done there as ahead tells."""
+    own = []
+    at = coming
+    for free, stay in zip(ahead, taken):
+        at = max(at, free) + stay
+        own.append(at)
+    return own
+
+
 def done_times(comings, minutes):
     """When each person is done at each window."""
     times = []
     for coming, taken in zip(comings, minutes):
         # Nobody is ahead of the first person; minute 0 holds nobody up.
         ahead = times[-1] if times else [0] * len(taken)
-        own = []
-        at = coming
-        for free, stay in zip(ahead, taken):
-            at = max(at, free) + stay
-            own.append(at)
-        times.append(own)
+        times.append(done_behind(ahead, coming, taken))
     return times
 
 

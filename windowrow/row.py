@@ -16,9 +16,13 @@ class Row:
         """Whether there is such a person."""
         return person < len(self.comings)
 
+    def has_window(self, window):
+        """Whether there is such a window."""
+        return window < self.windows
+
     def has_place(self, person, window):
         """Whether there is such a person and such a window."""
-        return self.has_person(person) and window < self.windows
+        return self.has_person(person) and self.has_window(window)
 
     def all_done(self):
         """When each person is done at each window."""
